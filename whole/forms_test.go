@@ -12,7 +12,7 @@ import (
 func TestP1_1CheckOfRight(t *testing.T) {
 	for _, a := range samples() {
 		if e := whole.Check(a); e != api.OK {
-			t.Errorf("%.80v: %v", a, e)
+			t.Errorf("%s: %v", show(a), e)
 		}
 	}
 	zerosBelow := api.Whole{Neg: true, Limbs: []uint32{0, 0, 1}}
@@ -24,7 +24,7 @@ func TestP1_1CheckOfRight(t *testing.T) {
 func TestP1_1CheckOfWrong(t *testing.T) {
 	for _, a := range wrongs() {
 		if e := whole.Check(a); e != api.ErrForm {
-			t.Errorf("%.80v: %v", a, e)
+			t.Errorf("%s: %v", show(a), e)
 		}
 	}
 }
@@ -75,12 +75,12 @@ func TestP1_1SmallOfSamples(t *testing.T) {
 			v, want = new(big.Int), api.ErrRange
 		}
 		if n, e := whole.Small(a); n != v.Int64() || e != want {
-			t.Errorf("%.80v: %d, %v", a, n, e)
+			t.Errorf("%s: %d, %v", show(a), n, e)
 		}
 	}
 	for _, a := range wrongs() {
 		if n, e := whole.Small(a); n != 0 || e != api.ErrForm {
-			t.Errorf("%.80v: %d, %v", a, n, e)
+			t.Errorf("%s: %d, %v", show(a), n, e)
 		}
 	}
 }
@@ -88,7 +88,7 @@ func TestP1_1SmallOfSamples(t *testing.T) {
 func TestP1_1Len(t *testing.T) {
 	for _, a := range samples() {
 		if n := whole.Len(a); n != valueOf(a).BitLen() {
-			t.Errorf("%.80v: %d", a, n)
+			t.Errorf("%s: %d", show(a), n)
 		}
 	}
 	for n, want := range map[int64]int{0: 0, 1: 1, -1: 1, 255: 8, -256: 9, 1<<32 - 1: 32, 1 << 32: 33, math.MinInt64: 64} {

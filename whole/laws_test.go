@@ -107,7 +107,7 @@ func tryUpAndDown(t *testing.T, i int, a api.Whole, n int) {
 	}
 	down, f := whole.Shift(up, -n)
 	if e != api.OK || f != api.OK || !same(down, a) {
-		t.Errorf("sample %d by %d: %v, %v, %.80v", i, n, e, f, down)
+		t.Errorf("sample %d by %d: %v, %v, %s", i, n, e, f, show(down))
 	}
 }
 

@@ -72,7 +72,7 @@ func TestP1_2OperationsAtTheLimit(t *testing.T) {
 	} {
 		got, e := c.op.call(c.a, c.b)
 		if e != c.want {
-			t.Errorf("%s of %.40v and %.40v: %v; wanted %v", c.op.name, c.a, c.b, e, c.want)
+			t.Errorf("%s of %s and %s: %v; wanted %v", c.op.name, show(c.a), show(c.b), e, c.want)
 		}
 		wants(t, c.op.name, got, e, c.op.exact(new(big.Int), valueOf(c.a), valueOf(c.b)))
 	}
@@ -166,10 +166,10 @@ func TestP1_2Compare(t *testing.T) {
 	for _, bad := range wrongs() {
 		for _, good := range []api.Whole{whole.Of(0), whole.Of(-3), list[len(list)-1], bad} {
 			if n, e := whole.Compare(bad, good); n != 0 || e != api.ErrForm {
-				t.Errorf("%.80v first: %d, %v", bad, n, e)
+				t.Errorf("%s first: %d, %v", show(bad), n, e)
 			}
 			if n, e := whole.Compare(good, bad); n != 0 || e != api.ErrForm {
-				t.Errorf("%.80v second: %d, %v", bad, n, e)
+				t.Errorf("%s second: %d, %v", show(bad), n, e)
 			}
 		}
 	}

@@ -2,6 +2,7 @@ package whole_test
 
 import (
 	"encoding/binary"
+	"fmt"
 	"math"
 	"math/big"
 	"slices"
@@ -47,6 +48,15 @@ func same(a, b api.Whole) bool {
 	return a.Neg == b.Neg && slices.Equal(a.Limbs, b.Limbs)
 }
 
+// show tells a number in few words, however long it is.
+func show(a api.Whole) string {
+	limbs := a.Limbs
+	if len(limbs) > 4 {
+		limbs = append(slices.Clone(limbs[:2]), limbs[len(limbs)-2:]...)
+	}
+	return fmt.Sprintf("{%v %d limbs %x}", a.Neg, len(a.Limbs), limbs)
+}
+
 // wants holds an answer against the exact one: ErrRange just if that has too many limbs.
 func wants(t *testing.T, what string, got api.Whole, e api.Errno, want *big.Int) {
 	t.Helper()
@@ -55,7 +65,7 @@ func wants(t *testing.T, what string, got api.Whole, e api.Errno, want *big.Int)
 		return
 	}
 	if e != api.OK || !same(got, numberOf(want)) {
-		t.Errorf("%s: %.80v, %v; wanted %.80v", what, got, e, want)
+		t.Errorf("%s: %s, %v; wanted %s", what, show(got), e, show(numberOf(want)))
 	}
 }
 
@@ -63,7 +73,7 @@ func wants(t *testing.T, what string, got api.Whole, e api.Errno, want *big.Int)
 func wantsError(t *testing.T, what string, got api.Whole, e, want api.Errno) {
 	t.Helper()
 	if e != want || got.Neg || len(got.Limbs) != 0 {
-		t.Errorf("%s: %.80v, %v; wanted %v", what, got, e, want)
+		t.Errorf("%s: %s, %v; wanted %v", what, show(got), e, want)
 	}
 }
 
@@ -155,7 +165,7 @@ func smalls() []int64 {
 func TestSamplesAreRight(t *testing.T) {
 	for _, a := range samples() {
 		if !same(a, numberOf(valueOf(a))) || whole.Check(a) != api.OK {
-			t.Errorf("%.80v is not right", a)
+			t.Errorf("%s is not right", show(a))
 		}
 	}
 }
