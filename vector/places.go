@@ -2,10 +2,7 @@ package vector
 
 import (
 	"dioptra/api"
-	"dioptra/compare"
-	"dioptra/root"
-	"dioptra/sum"
-	"dioptra/times"
+	"dioptra/plain"
 )
 
 // each is a new list of what at says of the places below n.
@@ -33,29 +30,11 @@ func fit(x, y []api.Bits) bool {
 
 // dot is Dot of vectors of one length.
 func dot(x, y []api.Bits) api.Bits {
-	return gather(len(x), api.Zero, func(s api.Bits, i int) api.Bits { return add(s, mul(x[i], y[i])) })
+	return gather(len(x), api.Zero, func(s api.Bits, i int) api.Bits { return plain.Add(s, plain.Mul(x[i], y[i])) })
 }
 
 // normBy is the norm of x, whose greatest number lies from 2^k on below 2^(k + 1): times 2^-k no square is too great, and the greatest one is not too small.
 func normBy(x []api.Bits, k int) api.Bits {
-	t := each(len(x), func(i int) api.Bits { return scale(x[i], -k) })
-	r, _ := root.Sqrt(dot(t, t))
-	return scale(r, k)
-}
-
-// add, mul and scale are operations without their flags, which vectors leave out.
-
-func add(a, b api.Bits) api.Bits {
-	s, _ := sum.Add(a, b)
-	return s
-}
-
-func mul(a, b api.Bits) api.Bits {
-	p, _ := times.Mul(a, b)
-	return p
-}
-
-func scale(a api.Bits, n int) api.Bits {
-	s, _ := compare.Scale(a, n)
-	return s
+	t := each(len(x), func(i int) api.Bits { return plain.Scale(x[i], -k) })
+	return plain.Scale(plain.Sqrt(dot(t, t)), k)
 }
